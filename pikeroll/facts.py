@@ -13,6 +13,7 @@ BOUNDS = {
     "payment": (0, 100000),
     "horses": (1, 8),
     "number": (1, None),
+    "place": (0, 7),
 }
 
 # The kinds of the things that stand in a fact behind its first text.

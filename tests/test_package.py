@@ -5,7 +5,7 @@ import inspect
 import pathlib
 import unittest
 
-from pikeroll import coin, errors, facts
+from pikeroll import accounts, coin, errors, facts, nets, walk
 
 PACKAGE = pathlib.Path(__file__).resolve().parent.parent / "pikeroll"
 LIBRARY = {"heapq", "math", "itertools", "collections"}
@@ -21,6 +21,14 @@ SIGNATURES = {
     facts.toll_on: "(facts, gate, day)",
     facts.trust_on: "(facts, gate, day)",
     facts.board_on: "(facts, gate, day)",
+    walk.day_walk: "(facts, carriage, day=0)",
+    walk.row_of: "(facts, number)",
+    walk.why: "(facts, number)",
+    walk.turned: "(facts, others)",
+    accounts.owes: "(facts, carriage, day=999)",
+    accounts.balances: "(facts, day=999)",
+    nets.barred: "(net, gates, one, other)",
+    nets.way_round: "(net, gates, one, other)",
 }
 
 
@@ -30,7 +38,7 @@ def sources():
 
 class NothingFromOutside(unittest.TestCase):
     def test_there_is_something_to_read(self):
-        self.assertGreaterEqual(len(sources()), 4)
+        self.assertGreaterEqual(len(sources()), 7)
 
     def test_imports(self):
         for path, text in sources().items():
@@ -63,6 +71,9 @@ class Interface(unittest.TestCase):
         listed = {
             coin: ["Toll", "stub", "read_stub", "summed"],
             facts: ["need_fact", "toll_on", "board_on", "trust_on"],
+            walk: ["day_walk", "row_of", "why", "turned"],
+            accounts: ["owes", "balances"],
+            nets: ["barred", "way_round"],
             errors: ["PikeError", "Missing", "BadFact", "BadStub", "BadNet", "BadPlace", "BadHorses", "BadDay",
                      "BadCount", "Other", "Full", "Nothing", "BadPage", "NoPassing", "NoFact", "NoCarriage"],
         }
