@@ -4,6 +4,11 @@
 class PikeError(ValueError):
     """Something handed in is not as it must be, or cannot be done now."""
 
+    def __init__(self, reason):
+        super().__init__(reason)
+        # The desk answers a refusal by what it is called.
+        self.called = self.__class__.__name__
+
 
 class BadFact(PikeError):
     """No good fact; place is that of the first thing that is wrong, from 0."""
@@ -62,6 +67,7 @@ class Missing(KeyError):
 
     def __init__(self, number):
         super().__init__(f"there is no {number}")
+        self.called = self.__class__.__name__
         self.number = number
 
 

@@ -29,22 +29,27 @@ SHAPES = {
 }
 
 
+def is_number(thing):
+    """Whether it is a whole number."""
+    # True and False are numbers to Python, but none here.
+    return isinstance(thing, int) and not isinstance(thing, bool)
+
+
 def is_good(kind, number):
     """Whether it is a whole number within the bounds of its kind."""
-    # True and False are numbers to Python, but none here.
-    if isinstance(number, bool) or not isinstance(number, int):
+    if not is_number(number):
         return False
     least, greatest = BOUNDS[kind]
     return least <= number and (greatest is None or number <= greatest)
 
 
-def are_gates(gates):
-    """Whether it is a rising tuple of gates."""
-    if not isinstance(gates, tuple):
+def are_rising(kind, numbers):
+    """Whether it is a rising tuple of good numbers of a kind."""
+    if not isinstance(numbers, tuple):
         return False
-    if not all([is_good("gate", gate) for gate in gates]):
+    if not all([is_good(kind, number) for number in numbers]):
         return False
-    return list(gates) == sorted(set(gates))
+    return list(numbers) == sorted(set(numbers))
 
 
 def need_fact(fact):
@@ -54,7 +59,7 @@ def need_fact(fact):
         raise BadFact(0)
     for place, kind in enumerate(kinds, start=1):
         thing = fact[place]
-        good = are_gates(thing) if kind == "gates" else is_good(kind, thing)
+        good = are_rising("gate", thing) if kind == "gates" else is_good(kind, thing)
         if not good:
             raise BadFact(place)
 

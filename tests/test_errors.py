@@ -47,6 +47,11 @@ class Fields(unittest.TestCase):
         first, second = errors.BadFact(1), errors.BadFact(2)
         self.assertEqual((first.place, second.place), (1, 2))
 
+    def test_each_is_called_by_its_class(self):
+        for name in UNDER_PIKE + UNDER_MISSING:
+            with self.subTest(name):
+                self.assertEqual(getattr(errors, name)(3).called, name)
+
     def test_caught_by_the_root(self):
         with self.assertRaises(errors.PikeError):
             need_fact(("none",))

@@ -5,7 +5,7 @@ import inspect
 import pathlib
 import unittest
 
-from pikeroll import accounts, coin, errors, facts, nets, walk
+from pikeroll import accounts, coin, desk, drives, errors, facts, nets, pages, roll, walk
 
 PACKAGE = pathlib.Path(__file__).resolve().parent.parent / "pikeroll"
 LIBRARY = {"heapq", "math", "itertools", "collections"}
@@ -29,6 +29,33 @@ SIGNATURES = {
     accounts.balances: "(facts, day=999)",
     nets.barred: "(net, gates, one, other)",
     nets.way_round: "(net, gates, one, other)",
+    drives.cheapest: "(facts, net, start, errands, horses=1, day=0)",
+    drives.prices: "(facts, net, start, errands, horses=1, day=0)",
+    drives.good_prices: "(facts, net, start, errands, told, horses=1, day=0)",
+    drives.pays: "(facts, net, places, horses=1, day=0)",
+    roll.Roll.__init__: "(self)",
+    roll.Roll.tell: "(self, fact)",
+    roll.Roll.right: "(self, number, fact)",
+    roll.Roll.strike: "(self, number)",
+    roll.Roll.undo: "(self)",
+    roll.Roll.redo: "(self)",
+    roll.Roll.facts: "(self)",
+    roll.Roll.told: "(self)",
+    roll.Roll.deeds: "(self)",
+    roll.Roll.known: "(self, count)",
+    roll.Roll.twin: "(self)",
+    pages.fact_text: "(fact)",
+    pages.page_of: "(roll)",
+    pages.read_page: "(text)",
+    desk.Desk.__init__: "(self, roll=None)",
+    desk.Desk.say: "(self, line)",
+    desk.Desk.roll: "(self)",
+}
+METHODS = {
+    coin.Toll: ["__init__", "plus", "times", "third", "__eq__", "__str__", "__repr__"],
+    roll.Roll: ["__init__", "tell", "right", "strike", "undo", "redo", "facts", "told", "deeds", "known", "twin",
+                "__eq__", "__len__"],
+    desk.Desk: ["__init__", "say", "roll"],
 }
 
 
@@ -38,7 +65,9 @@ def sources():
 
 class NothingFromOutside(unittest.TestCase):
     def test_there_is_something_to_read(self):
-        self.assertGreaterEqual(len(sources()), 7)
+        self.assertEqual({path.name for path in sources()}, {
+            "__init__.py", "accounts.py", "coin.py", "desk.py", "drives.py", "errors.py", "facts.py", "nets.py",
+            "pages.py", "roll.py", "walk.py"})
 
     def test_imports(self):
         for path, text in sources().items():
@@ -64,8 +93,10 @@ class Interface(unittest.TestCase):
                 self.assertEqual(str(inspect.signature(function)), signature)
 
     def test_methods_stand_in_the_class_itself(self):
-        for name in ("__init__", "plus", "times", "third", "__eq__", "__str__", "__repr__"):
-            self.assertIn(name, coin.Toll.__dict__)
+        for listed, names in METHODS.items():
+            for name in names:
+                with self.subTest(f"{listed.__name__}.{name}"):
+                    self.assertIn(name, listed.__dict__)
 
     def test_defined_where_it_is_listed(self):
         listed = {
@@ -74,6 +105,10 @@ class Interface(unittest.TestCase):
             walk: ["day_walk", "row_of", "why", "turned"],
             accounts: ["owes", "balances"],
             nets: ["barred", "way_round"],
+            drives: ["cheapest", "prices", "good_prices", "pays"],
+            roll: ["Roll"],
+            pages: ["fact_text", "page_of", "read_page"],
+            desk: ["Desk"],
             errors: ["PikeError", "Missing", "BadFact", "BadStub", "BadNet", "BadPlace", "BadHorses", "BadDay",
                      "BadCount", "Other", "Full", "Nothing", "BadPage", "NoPassing", "NoFact", "NoCarriage"],
         }
